@@ -1,0 +1,1 @@
+"""Crewpay: seamen's wages by voyage, reckoned with whole numbers and exact fractions."""
