@@ -7,11 +7,7 @@ import unittest
 
 from crewpay.articles import earns, is_articles
 from crewpay.errors import NoArticles, NoRank, NoSum
-
-RANKS = (("boy", 0, 1), ("hand", 30, 1), ("mate", 480, 28))
-CHESTS = (("church", 1), ("sick", 3))
-GOOD = (RANKS, CHESTS, 28)
-LETTERS = "abcdefghijklmnopqrstuvwxyz"
+from helpers import CHESTS, GOOD, LETTERS, RANKS, is_number, small_things, swapped
 
 
 def of_ranks(ranks):
@@ -40,40 +36,6 @@ def many_ranks(many):
 
 def many_chests(many):
     return of_chests(tuple((letter, 3) for letter in LETTERS[:many]))
-
-
-def nested(kind, depth, core):
-    thing = core
-    for step in range(depth):
-        thing = kind((thing,))
-    return thing
-
-
-def small_things():
-    """Things of every kind that point 2 names, within one another up to ten times."""
-    plain = [
-        None, True, False, 0, 1, 2, 3, 28, -1, 10 ** 9, 10 ** 20, -(10 ** 20),
-        "", "a", "mate", "MATE", "mate ", "mate\n", "m4te", "abcdefghi", "x" * 4000, "mate=480/28 sick*3 28",
-    ]
-    things = plain + [(), [], ((),), [[]], ([],), [()]]
-    things += [(thing,) for thing in plain] + [[thing] for thing in plain]
-    things += [(one, other) for one in plain for other in plain]
-    things += [(one, 1, other) for one in plain for other in plain]
-    things += [nested(kind, depth, core) for kind in (list, tuple) for depth in range(1, 11) for core in (0, "a", GOOD)]
-    return things
-
-
-def swapped(thing, strange):
-    """Every copy of the tuple thing in which one part, at any depth, is the strange one."""
-    copies = [strange]
-    if isinstance(thing, tuple):
-        for at, part in enumerate(thing):
-            copies += [thing[:at] + (other,) + thing[at + 1:] for other in swapped(part, strange)]
-    return copies
-
-
-def is_number(thing, least, most):
-    return type(thing) is int and least <= thing <= most
 
 
 def are_rows(thing, most_rows, bounds):

@@ -1,9 +1,10 @@
 """The fractions of point 2: lowest terms, bottom from 1 on."""
 
 import fractions
+import math
 import unittest
 
-from crewpay.fractions import greatest_divisor, lowest
+from crewpay.fractions import added, greatest_divisor, lowest, rounded_up, whole_part
 
 
 class Lowest(unittest.TestCase):
@@ -47,6 +48,29 @@ class GreatestDivisor(unittest.TestCase):
     def test_nought_and_below(self):
         self.assertEqual(greatest_divisor(0, 5), 5)
         self.assertEqual(greatest_divisor(-12, 18), 6)
+
+
+class Reckoned(unittest.TestCase):
+    def test_added(self):
+        self.assertEqual(added((1, 2), (1, 3)), (5, 6))
+        self.assertEqual(added((1, 6), (1, 3)), (1, 2))
+        self.assertEqual(added((1, 2), (-1, 2)), (0, 1))
+        self.assertEqual(added((0, 1), (120, 7)), (120, 7))
+
+    def test_as_pythons_own(self):
+        some = [(top, bottom) for top in range(-9, 10) for bottom in range(1, 10)]
+        for top, bottom in some:
+            one = fractions.Fraction(top, bottom)
+            self.assertEqual(whole_part(lowest(top, bottom)), math.floor(one))
+            self.assertEqual(rounded_up(top, bottom), math.ceil(one))
+            for other in some:
+                wanted = one + fractions.Fraction(*other)
+                self.assertEqual(added(lowest(top, bottom), lowest(*other)), (wanted.numerator, wanted.denominator))
+
+    def test_great(self):
+        self.assertEqual(whole_part((10 ** 40 + 1, 3)), 10 ** 40 // 3)
+        self.assertEqual(rounded_up(10 ** 40, 3), 10 ** 40 // 3 + 1)
+        self.assertEqual(rounded_up(-(10 ** 40), 3), -(10 ** 40 // 3))
 
 
 if __name__ == "__main__":

@@ -1,6 +1,7 @@
 """Rules of LANGUAGE.md that can be seen in the text of a file, for every file of the package."""
 
 import ast
+import builtins
 import pathlib
 import re
 import unittest
@@ -15,6 +16,37 @@ WORDS = (
 PARTS = ("dataclass", "overload", "contextmanager")
 # L6, L7, L9: what no file of this package has; L2 allows `sys` to a `__main__.py` alone.
 NODES = (ast.Global, ast.AsyncFunctionDef, ast.Div, ast.Import)
+# L8: the builtins of values, without those that only a rule of its own allows; L27 takes chr away.
+BUILTINS = (
+    "len range enumerate zip min max sum abs sorted reversed int str bool bytes list tuple dict set frozenset isinstance "
+    "ord repr any all divmod Exception ValueError TypeError KeyError IndexError LookupError ZeroDivisionError "
+    "ArithmeticError OverflowError RuntimeError NotImplementedError AttributeError StopIteration NotImplemented"
+).split()
+# L3: what may stand at module level.
+AT_MODULE_LEVEL = (ast.Expr, ast.ImportFrom, ast.FunctionDef, ast.ClassDef, ast.Assign)
+
+
+def bound_at_module_level(tree):
+    """The names that a file binds outside of functions and classes, as often as it does."""
+    names = []
+    for node in tree.body:
+        if isinstance(node, ast.ImportFrom):
+            names += [name.asname or name.name for name in node.names]
+        elif isinstance(node, (ast.FunctionDef, ast.ClassDef)):
+            names.append(node.name)
+        elif isinstance(node, ast.Assign):
+            names += [target.id for target in node.targets]
+    return names
+
+
+def bound_within(tree):
+    """The names of parameters and of local variables."""
+    names = {node.arg for node in ast.walk(tree) if isinstance(node, ast.arg)}
+    inner = [node for node in tree.body if isinstance(node, (ast.FunctionDef, ast.ClassDef))]
+    for node in [below for part in inner for below in ast.walk(part)]:
+        if isinstance(node, ast.Name) and isinstance(node.ctx, ast.Store):
+            names.add(node.id)
+    return names
 
 
 class Language(unittest.TestCase):
@@ -66,6 +98,52 @@ class Language(unittest.TestCase):
                 for node in ast.walk(ast.parse(text)):
                     self.assertNotIsInstance(node, NODES)
                     self.assertFalse(isinstance(node, ast.Constant) and isinstance(node.value, (float, complex)))
+
+    def test_l3_module_level(self):
+        for name, text in self.each():
+            with self.subTest(name):
+                for node in ast.parse(text).body:
+                    self.assertIsInstance(node, AT_MODULE_LEVEL)
+                    self.assertTrue(not isinstance(node, ast.Expr) or isinstance(node.value, ast.Constant))
+
+    def test_l7_generators(self):
+        # A class with `__eq__` is to come, beside which any, all and their like take lists.
+        for name, text in self.each():
+            with self.subTest(name):
+                for node in ast.walk(ast.parse(text)):
+                    self.assertNotIsInstance(node, ast.GeneratorExp)
+
+    def test_l8_builtins(self):
+        for name, text in self.each():
+            with self.subTest(name):
+                used = {node.id for node in ast.walk(ast.parse(text)) if isinstance(node, ast.Name)}
+                self.assertEqual((used & set(dir(builtins))) - set(BUILTINS), set())
+
+    def test_l15_one_binding(self):
+        for name, text in self.each():
+            with self.subTest(name):
+                tree = ast.parse(text)
+                names = bound_at_module_level(tree)
+                self.assertEqual(len(names), len(set(names)))
+                self.assertEqual(set(names) & set(dir(builtins)), set())
+                self.assertEqual(bound_within(tree) & (set(names) | set(dir(builtins))), set())
+
+    def test_l16_no_two_files_import_from_each_other(self):
+        above = {}
+        for name, text in self.each():
+            nodes = [node for node in ast.walk(ast.parse(text)) if isinstance(node, ast.ImportFrom)]
+            above[name] = {node.module.partition(".")[2] + ".py" for node in nodes if node.module != "__future__"}
+        while above:
+            first = [name for name in above if not above[name] & set(above)]
+            self.assertNotEqual(first, [], above)
+            above = {name: above[name] for name in above if name not in first}
+
+    def test_l20_is(self):
+        for name, text in self.each():
+            with self.subTest(name):
+                for node in ast.walk(ast.parse(text)):
+                    if isinstance(node, ast.Compare) and isinstance(node.ops[0], (ast.Is, ast.IsNot)):
+                        self.assertIn(repr(getattr(node.comparators[0], "value", 0)), ("None", "True", "False"))
 
     def test_l12_names(self):
         for name, text in self.each():
