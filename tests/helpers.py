@@ -102,13 +102,15 @@ def steps(most, action, *given):
 
 
 class SlowBook:
-    """Points 6 to 10 said once more, in another way than the program says them: day by day, up to HORIZON."""
+    """Points 6 to 12 said once more, in another way than the program says them: day by day, up to the horizon."""
 
-    def __init__(self, articles, pages):
+    def __init__(self, articles, pages, horizon=HORIZON):
+        self.horizon = horizon
         self.rates = {rank: fractions.Fraction(pence, days) for rank, pence, days in articles[0]}
         self.month = articles[2]
         self.book = list(pages)
         self.losses = [page for page in pages if page[0] == "lost"]
+        self.days = {page: {page[2] + at * self.month for at in range(page[4])} for page in pages if page[0] == "home"}
 
     def names(self):
         return sorted({page[1] for page in self.book if page[0] != "lost"})
@@ -127,7 +129,7 @@ class SlowBook:
         if several:
             return several
         found, state = set(), "off"
-        for day in range(HORIZON):
+        for day in range(self.horizon):
             word = turns.get(day, ["none"])[0]
             if (state, word) in (("off", "ranked"), ("off", "leaves"), ("on", "joins")):
                 found.add((man, day, "turn"))
@@ -158,16 +160,44 @@ class SlowBook:
     def sent_on(self, man, day):
         if not self.is_on(man, day) or any(day > page[1] for page in self.losses):
             return 0
-        days = [(page[2] + at * self.month, page[3]) for page in self.of(man, "home") for at in range(page[4])]
-        return sum(pence for sent, pence in days if sent == day)
+        return sum(page[3] for page in self.of(man, "home") if day in self.days[page])
 
     def had_on(self, man, word, day):
         return sum(page[3] for page in self.of(man, word) if page[2] == day)
 
+    def items(self, man, *words):
+        """Each sum by itself, as (day, word, pence, bearer), in the order in which wages meet them."""
+        found = [(page[2], page[0], page[3], page[-1]) for page in self.of(man, *words) if page[0] != "home"]
+        for page in self.of(man, "home") if "home" in words else ():
+            found += [(day, "home", page[3], page[5]) for day in self.days[page] if self.sent_on(man, day) > 0]
+        return sorted(found)
+
+    def room(self, man, day, told):
+        """The room at a day, by what tell told of the man."""
+        if not told.books[day] or any(day > page[1] for page in self.losses):
+            return 0
+        return max(0, min(told.left[at] for at in [day] + [at for at in told.draws if at > day]))
+
+    def first_over(self, told):
+        return next(((day, -told.left[day]) for day in told.draws if told.left[day] < 0), None)
+
+    def paid_off(self, man, day, told):
+        """What is paid, put up and borne, item by item."""
+        purse = told.earned[day].numerator // told.earned[day].denominator
+        put_up, borne = 0, collections.Counter()
+        items = self.items(man, "fine") + self.items(man, "advance", "home", "slops")
+        for at, word, pence, bearer in items:
+            if at <= day:
+                met = min(purse, pence)
+                purse -= met
+                put_up += pence - met if word == "fine" else 0
+                borne[bearer] += 0 if word == "fine" else pence - met
+        return (purse, put_up, sorted((bearer, pence) for bearer, pence in borne.items() if pence > 0))
+
     def tell(self, man):
         """All of a man without faults, each a list by days, so that it is gone through but once."""
-        told = collections.namedtuple("Told", "books ranks earned sent had left")
-        days = range(HORIZON)
+        told = collections.namedtuple("Told", "books ranks earned sent had left draws")
+        days = range(self.horizon)
         ranks = [self.rank_on(man, day) for day in days]
         sent = [self.sent_on(man, day) for day in days]
         earned, had = [], []
@@ -179,7 +209,8 @@ class SlowBook:
             earned.append(total)
             had.append(sums)
         left = [earned[day].numerator // earned[day].denominator - sum(had[day]) for day in days]
-        return told([self.is_on(man, day) for day in days], ranks, earned, sent, had, left)
+        draws = sorted({item[0] for item in self.items(man, "home", "slops")})
+        return told([self.is_on(man, day) for day in days], ranks, earned, sent, had, left, draws)
 
 
 def stretches(values):
@@ -220,6 +251,52 @@ def random_page(chance, articles, man):
     if word == "home":
         return (word, man, day, pence, chance.randint(1, 12), bearer)
     return (word, man, day, pence) if word == "fine" else (word, man, day, pence, bearer)
+
+
+def long_book(seed):
+    """Articles, and pages of ann, without faults, with long runs of sendings whose pay changes within them."""
+    chance = random.Random(seed)
+    month = chance.choice((1, 2, 7, 28))
+    names = ("boy", "hand", "mate", "third")
+    ranks = tuple((name, chance.randint(0, 40), chance.choice((1, 3, 7))) for name in names)
+    pages, aboard = [joins(chance.randint(0, 20), chance.choice(names))], True
+    for day in sorted(chance.sample(range(21, 900), chance.randint(0, 4))):
+        word = chance.choice(("leaves", "ranked", "ranked")) if aboard else "joins"
+        aboard = word != "leaves"
+        pages.append((word, "ann", day, chance.choice(names)) if aboard else leaves(day))
+    for at in range(chance.randint(1, 4)):
+        times = chance.randint(1, 900 // month)
+        pages.append(home(chance.randint(0, 900 - times * month + month), chance.randint(1, 20 * month), times, "kin" + LETTERS[at]))
+    for at in range(chance.randint(0, 3)):
+        word, day = chance.choice(("slops", "advance", "fine", "away")), chance.randint(0, 900)
+        more = {"away": (day + chance.randint(0, 99),), "fine": (chance.randint(1, 999),)}
+        pages.append((word, "ann", day) + more.get(word, (chance.randint(1, 999), "owner")))
+    if chance.random() < 0.3:
+        day = chance.randint(100, 900)
+        pages.append(("lost", day, chance.randint(0, day)))
+    pages = sorted(set(pages))
+    chance.shuffle(pages)
+    return (ranks, CHESTS, month), pages
+
+
+def great_book(seed, scale=1):
+    """Articles and 200 pages, 90 of them turns of ann without faults; all days, and the month, as great as the scale tells."""
+    chance = random.Random(seed)
+    articles = ((("boy", 0, 1), ("hand", 30, 7), ("mate", 480, 28)), CHESTS, 4 * scale)
+    days = sorted(chance.sample(range(400), 90))
+    words = ("joins", "ranked", "leaves")
+    pages = []
+    for at, day in enumerate(days):
+        rank = chance.choice(articles[0])[0]
+        pages.append((words[at % 3], "ann", day * scale) + (() if at % 3 == 2 else (rank,)))
+    while len(pages) < 200:
+        man = chance.choice(("ann", "ann", "ann", "bob"))
+        word, man, day, *rest = random_page(chance, articles, man)
+        day += chance.randint(0, 360)
+        page = (word, man, day * scale) + (((day + 3) * scale,) if word == "away" else tuple(rest))
+        pages += [] if page in pages else [page]
+    chance.shuffle(pages)
+    return articles, pages
 
 
 def random_book(seed):

@@ -1,19 +1,26 @@
 """Points 2 and 3, of all that is told by pages: refusals, what is handed in and told, orders, few steps."""
 
 import copy
+import fractions
 import unittest
 
+from crewpay.chests import chests_at
 from crewpay.errors import Faulty, NoArticles, NoMan, NoPages, NoSum, WageError
 from crewpay.ledgers import earned, had, left, next_sent, sent_on, when_earned
 from crewpay.pages import are_pages, is_page, men
+from crewpay.payoff import paid_off
+from crewpay.rooms import first_over, room
 from crewpay.turns import faults, on_books, paid_days
-from helpers import CHESTS, FAR, GOOD, MOST, away, home, in_orders, joins, leaves, ranked, random_book, small_things, steps
+from helpers import (
+    CHESTS, FAR, GOOD, MOST, SlowBook, away, great_book, home, in_orders, joins, leaves, ranked, random_book, small_things, steps,
+)
 
 # What is told of a man, and what is asked for beside him.
 OF_A_MAN = (
     (on_books, ()), (paid_days, ()), (earned, (30,)), (when_earned, (30,)), (had, (30,)), (sent_on, (30,)),
-    (next_sent, (30,)), (left, (30,)),
+    (next_sent, (30,)), (left, (30,)), (room, (30,)), (first_over, ()), (paid_off, (30,)),
 )
+OF_DAYS = (earned, had, sent_on, next_sent, left, room, paid_off)
 OF_PAGES = (men, faults)
 LISTS = (on_books, paid_days)
 PAGES = [
@@ -113,7 +120,7 @@ class HandedIn(unittest.TestCase):
             before = copy.deepcopy((articles, pages))
             for man in ("ann", "bob", "lost", "zed"):
                 telling(articles, pages, man)
-            men(articles, pages), faults(articles, pages), are_pages(articles, pages)
+            men(articles, pages), faults(articles, pages), are_pages(articles, pages), chests_at(articles, pages, 20)
             self.assertEqual((articles, pages), before)
 
     def test_is_the_same_where_refused(self):
@@ -175,7 +182,7 @@ class Orders(unittest.TestCase):
             for man in ("ann", "bob", "lost", "zed"):
                 told = [telling(articles, book, man) for book in in_orders(pages)]
                 self.assertEqual(told, [told[0]] * len(told), (seed, man))
-            told = [(men(articles, book), faults(articles, book)) for book in in_orders(pages)]
+            told = [(men(articles, book), faults(articles, book), chests_at(articles, book, 20)) for book in in_orders(pages)]
             self.assertEqual(told, [told[0]] * len(told), seed)
 
     def test_of_one_man_his_pages_and_the_ships_tell_alone(self):
@@ -191,8 +198,104 @@ class Orders(unittest.TestCase):
             self.assertEqual([earned(GOOD, book, man, MOST) for man in men(GOOD, book)], [(240, 1), (150, 1), (30, 1), (0, 1)])
 
 
+def renamed(thing):
+    """The thing with each name in it made another one, so that their order stays."""
+    if isinstance(thing, str):
+        return thing if thing == "" else "q" + thing
+    if isinstance(thing, (list, tuple)):
+        return type(thing)(renamed(part) for part in thing)
+    return thing
+
+
+def renamed_page(page):
+    return page[:1] + renamed(page[1:])
+
+
+def later(page, by):
+    """The page with each of its days later by so many."""
+    if page[0] == "lost":
+        return ("lost", page[1] + by, page[2] + by)
+    if page[0] == "away":
+        return page[:2] + (page[2] + by, page[3] + by)
+    return page[:2] + (page[2] + by,) + page[3:]
+
+
+def shifted(told, by):
+    """What is told of days, with each of them later by so many; None is no day."""
+    if told is None:
+        return None
+    if isinstance(told, int):
+        return told + by
+    if isinstance(told, list):
+        return [shifted(row, by) for row in told]
+    return tuple(part if part is None or isinstance(part, str) else part + by for part in told)
+
+
+class OtherNamesAndDays(unittest.TestCase):
+    def sound_men(self, seed):
+        articles, pages = random_book(seed)
+        slow = SlowBook(articles, pages)
+        return articles, pages, [man for man in slow.names() if not slow.faults_for(man)]
+
+    def test_all_names_exchanged(self):
+        for seed in range(60):
+            articles, pages, sound = self.sound_men(seed)
+            others, book = renamed(articles), [renamed_page(page) for page in pages]
+            self.assertTrue(are_pages(others, book))
+            self.assertEqual(men(others, book), renamed(men(articles, pages)))
+            self.assertEqual(faults(others, book), [(renamed(man), day, word) for man, day, word in faults(articles, pages)])
+            self.assertEqual(chests_at(others, book, 25), renamed(chests_at(articles, pages, 25)))
+            for man in sound:
+                self.assertEqual(telling(others, book, renamed(man)), renamed(telling(articles, pages, man)), (seed, man))
+
+    def test_all_days_later(self):
+        for seed in range(60):
+            articles, pages, sound = self.sound_men(seed)
+            for by in (1, 37, 10 ** 11):
+                book = [later(page, by) for page in pages]
+                self.assertEqual(faults(articles, book), [(man, day + by, word) for man, day, word in faults(articles, pages)])
+                self.assertEqual(chests_at(articles, book, 25 + by), chests_at(articles, pages, 25))
+                for man in sound:
+                    for action in (on_books, paid_days):
+                        self.assertEqual(action(articles, book, man), shifted(action(articles, pages, man), by))
+                    over = first_over(articles, pages, man)
+                    self.assertEqual(first_over(articles, book, man), over and (over[0] + by, over[1]))
+                    self.assertEqual(when_earned(articles, book, man, 30), shifted(when_earned(articles, pages, man, 30), by))
+                    for day in (-3, 0, 9, 22, 41, 100):
+                        self.assertEqual(next_sent(articles, book, man, day + by), shifted(next_sent(articles, pages, man, day), by))
+                        for action in (earned, had, sent_on, left, room, paid_off):
+                            self.assertEqual(action(articles, book, man, day + by), action(articles, pages, man, day), (seed, man))
+
+
+class GreatBooks(unittest.TestCase):
+    def test_two_hundred_pages_and_ninety_turns_as_the_slow_book(self):
+        for seed in range(4):
+            articles, pages = great_book(seed)
+            self.assertEqual(len(pages), 200)
+            slow = SlowBook(articles, pages, 500)
+            told = slow.tell("ann")
+            self.assertEqual(first_over(articles, pages, "ann"), slow.first_over(told))
+            for day in range(seed, 500, 12):
+                with self.subTest(seed=seed, day=day):
+                    self.assertEqual(fractions.Fraction(*earned(articles, pages, "ann", day)), told.earned[day])
+                    self.assertEqual(had(articles, pages, "ann", day), told.had[day])
+                    self.assertEqual(left(articles, pages, "ann", day), told.left[day])
+                    self.assertEqual(room(articles, pages, "ann", day), slow.room("ann", day, told))
+                    self.assertEqual(paid_off(articles, pages, "ann", day), slow.paid_off("ann", day, told))
+
+    def test_forty_times_behind_one_another_in_few_steps(self):
+        scale = 10 ** 9
+        articles, pages = great_book(7, scale)
+        # The month is as short as ever, the days are far from one another.
+        articles = articles[:2] + (4,)
+        for at in range(40):
+            for action in (room, paid_off):
+                steps(100000, action, articles, pages, "ann", at * 10 * scale)
+            steps(100000, first_over, articles, pages, "ann")
+
+
 class FewSteps(unittest.TestCase):
-    LIMIT = 100000
+    LIMIT = 300000
 
     def book(self, scale, month):
         """Articles and pages whose days and times are as great as the scale tells."""
@@ -207,12 +310,16 @@ class FewSteps(unittest.TestCase):
             for action in LISTS:
                 most = steps(self.LIMIT, action, *small, "ann")
                 self.assertLessEqual(steps(self.LIMIT, action, *great, "ann"), 2 * most + 100)
-            for action in (earned, when_earned, had, sent_on, next_sent, left):
+            most = steps(self.LIMIT, first_over, *small, "ann")
+            self.assertLessEqual(steps(self.LIMIT, first_over, *great, "ann"), 2 * most + 100)
+            for action in (*OF_DAYS, when_earned):
                 most = steps(self.LIMIT, action, *small, "ann", 100)
+                # Halving goes on for longer where days are greater, but for a few dozen steps only.
+                most = 10 ** 4 if action == paid_off else 2 * most + 100
                 for asked in (1, FAR // 7, FAR, FAR + 10 ** 9, MOST):
-                    self.assertLessEqual(steps(self.LIMIT, action, *great, "ann", asked), 2 * most + 100)
+                    self.assertLessEqual(steps(self.LIMIT, action, *great, "ann", asked), most)
                 if action != when_earned:
-                    self.assertLessEqual(steps(self.LIMIT, action, *great, "ann", -MOST), 2 * most + 100)
+                    self.assertLessEqual(steps(self.LIMIT, action, *great, "ann", -MOST), most)
 
     def test_two_hundred_pages(self):
         pages = [joins(10 ** 10 * at) for at in range(50)] + [leaves(10 ** 10 * at + 10 ** 9) for at in range(50)]
@@ -220,8 +327,9 @@ class FewSteps(unittest.TestCase):
         pages += [home(at, 10 ** 9, 10 ** 6) for at in range(50)]
         for action in LISTS:
             steps(self.LIMIT, action, GOOD, pages, "ann")
-        for action in (earned, when_earned, had, sent_on, next_sent, left):
+        for action in (*OF_DAYS, when_earned):
             steps(self.LIMIT, action, GOOD, pages, "ann", MOST)
+        steps(self.LIMIT, first_over, GOOD, pages, "ann")
         for action in (men, faults):
             steps(self.LIMIT, action, GOOD, pages)
         steps(self.LIMIT, are_pages, GOOD, pages)
