@@ -163,6 +163,9 @@ class Rooms(unittest.TestCase):
         # 400 a month to 299, then 200: the least is on 299.
         pages = [joins(0, "hand"), home(109, 200, 90), home(109, 200, 20)]
         self.are_rooms({0: 30, 32: 990, 33: 1000, 99: 1000, 299: 1000, 300: 1030, 309: 1100}, pages)
+        # By days: 10 less on each to 149, then 10 more.
+        pages = [joins(0, "hand"), home(50, 20, 200), home(50, 20, 100, "aunt")]
+        self.are_rooms({0: 30, 50: 500, 149: 500, 150: 510, 151: 520}, pages, by_month(1))
 
     def test_many_times(self):
         pages = [joins(0, "hand"), home(0, 29, MANY)]
@@ -263,6 +266,18 @@ class FirstOver(unittest.TestCase):
             self.is_over((5, 1), [joins(5, "hand"), home(5, 31, MANY)], by_month(month))
             # More is earned than sent, and yet the first one is over.
             self.is_over((5, 71), [joins(5, "hand"), advance(0, 100), home(5, 1, MANY)], by_month(month))
+
+    def test_nothing_is_left_of_the_first_of_a_long_run(self):
+        for month in (1, 1000):
+            pence = 30 * month + 1
+            pages = [joins(0, "hand"), fine(0, 30 * 2001 - pence), home(2000, pence, MANY)]
+            self.is_over((2000 + month, 1), pages, by_month(month))
+
+    def test_a_run_that_ends_within_another_one(self):
+        # 40 a day to 149, where 500 are left, then 20.
+        pages = [joins(0, "hand"), home(50, 20, 200), home(50, 20, 100, "aunt")]
+        self.is_over(None, [*pages, fine(0, 500)], by_month(1))
+        self.is_over((149, 1), [*pages, fine(0, 501)], by_month(1))
 
     def test_the_last_and_some_other_of_a_long_run(self):
         # A penny less each day, or each thousand days: behind so many as are left of the first one it is over.
