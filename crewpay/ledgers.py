@@ -3,7 +3,7 @@
 from crewpay.articles import rate_of
 from crewpay.errors import NoSum
 from crewpay.fractions import added, lowest, rounded_up, whole_part
-from crewpay.pages import pages_of
+from crewpay.pages import SINGLE, pages_of
 from crewpay.sendings import runs_within, sent_runs, sum_of_runs
 from crewpay.turns import cut_at, need_sound_man, paid_stretches
 
@@ -60,6 +60,14 @@ def had_by(pages, man, word, day):
     return sum([page[3] for page in pages_of(pages, man, (word,)) if page[2] <= day])
 
 
+def sums_by_day(pages, man, words):
+    """A dict of what the man had on each day by pages of these words, each on its own day."""
+    sums = {}
+    for page in pages_of(pages, man, words):
+        sums[page[2]] = sums.get(page[2], 0) + page[3]
+    return sums
+
+
 def sent_to(articles, pages, man, day):
     """What is sent home to the day, with it, for a man without faults."""
     # No page has a day below 0.
@@ -69,7 +77,7 @@ def sent_to(articles, pages, man, day):
 def had_to(articles, pages, man, day):
     """What a man without faults had to the day, with it: (advances, home, slops, fines)."""
     home = sent_to(articles, pages, man, day)
-    advances, slops, fines = [had_by(pages, man, word, day) for word in ("advance", "slops", "fine")]
+    advances, slops, fines = [had_by(pages, man, word, day) for word in SINGLE]
     return (advances, home, slops, fines)
 
 

@@ -19,6 +19,8 @@ SHAPES = {
     "home": ("man", "day", "pence", "times", "bearer"),
     "lost": ("day", "day"),
 }
+# The words of pages whose sum is had just on their day.
+SINGLE = ("advance", "slops", "fine")
 
 
 def is_day(thing):

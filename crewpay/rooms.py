@@ -9,12 +9,10 @@ later one. Both are counted in parts of a penny, so many to the penny that each 
 
 from crewpay.articles import rate_of
 from crewpay.fractions import greatest_divisor
-from crewpay.ledgers import left_at
-from crewpay.pages import pages_of
+from crewpay.ledgers import left_at, sums_by_day
+from crewpay.pages import SINGLE, pages_of
 from crewpay.sendings import last_day, runs_within, sending_stretches, sum_of_runs, told_runs
-from crewpay.turns import need_sound_man, paid_stretches
-
-SINGLE = ("advance", "slops", "fine")
+from crewpay.turns import need_sound_man, paid_stretches, stretches_between, values_by_start
 
 
 def parts_of_penny(articles):
@@ -25,41 +23,18 @@ def parts_of_penny(articles):
     return parts
 
 
-def values_by_start(stretches):
-    """A dict that tells from which day on which value holds; 0 behind the end of each stretch (first, last, value)."""
-    values = {last + 1: 0 for first, last, value in stretches if last is not None}
-    # Where one stretch follows another without a gap, the later one's value holds.
-    for first, last, value in stretches:
-        values[first] = value
-    return values
-
-
 def pay_by_start(articles, pages, man, parts):
     """A dict that tells from which day on he earns how many parts of a penny a day."""
     stretches = []
     for first, last, rank in paid_stretches(pages, man):
         pence, days = rate_of(articles, rank)
         stretches.append((first, last, pence * (parts // days)))
-    return values_by_start(stretches)
+    return values_by_start(stretches, 0)
 
 
 def sending_by_start(pages, man):
     """A dict that tells from which day on sums can be sent home (1), or cannot (0)."""
-    return values_by_start([(first, last, 1) for first, last in sending_stretches(pages, man)])
-
-
-def singles_by_day(pages, man):
-    """A dict of what he had on each day but what was sent home."""
-    sums = {}
-    for page in pages_of(pages, man, SINGLE):
-        sums[page[2]] = sums.get(page[2], 0) + page[3]
-    return sums
-
-
-def ends_of_days(days):
-    """The stretches (first, last) from each of the days to the one ahead of the next, the last one without end."""
-    starts = sorted(set(days))
-    return list(zip(starts, [start - 1 for start in starts[1:]] + [None]))
+    return values_by_start([(first, last, 1) for first, last in sending_stretches(pages, man)], 0)
 
 
 def legs_of(articles, pages, man, parts, asked):
@@ -70,12 +45,12 @@ def legs_of(articles, pages, man, parts, asked):
     """
     month = articles[2]
     pay_from, sends_from = pay_by_start(articles, pages, man, parts), sending_by_start(pages, man)
-    singles = singles_by_day(pages, man)
+    singles = sums_by_day(pages, man, SINGLE)
     told = told_runs(pages, man, ("home",))
     run_days = [run[0] for run in told] + [last_day(run, month) + 1 for run in told]
     legs = []
     pay = sends = 0
-    for first, last in ends_of_days(list(pay_from) + list(sends_from) + list(singles) + run_days + asked):
+    for first, last in stretches_between(list(pay_from) + list(sends_from) + list(singles) + run_days + asked):
         pay = pay_from.get(first, pay)
         sends = sends_from.get(first, sends)
         runs = runs_within(told, month, first, last) if sends == 1 else []
@@ -133,15 +108,20 @@ def can_send(pages, man, day):
     return any([first <= day and (last is None or day <= last) for first, last in sending_stretches(pages, man)])
 
 
-def room(articles, pages, man, day):
-    """The greatest sum that could be sent home on the day, too, with not less than 0 left from then on."""
-    need_sound_man(articles, pages, man)
+def room_at(articles, pages, man, day):
+    """The room at the day of a man without faults."""
     if not can_send(pages, man, day):
         return 0
     parts = parts_of_penny(articles)
     rows = spare_rows(articles, pages, man, parts, [day])
     least = min([least_of_row(row) for row in rows if row[0] >= day])
     return max(0, least // parts)
+
+
+def room(articles, pages, man, day):
+    """The greatest sum that could be sent home on the day, too, with not less than 0 left from then on."""
+    need_sound_man(articles, pages, man)
+    return room_at(articles, pages, man, day)
 
 
 def first_over(articles, pages, man):

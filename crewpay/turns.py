@@ -60,14 +60,24 @@ def faults(articles, pages):
     return found
 
 
-def need_sound_man(articles, pages, man):
-    """Refuse what is no articles, no pages, no man of whom they tell; then faults, his and the ship's."""
-    need_pages(articles, pages)
+def need_man(pages, man):
+    """Refuse a man of whom the pages do not tell."""
     if man not in names_in(pages):
         raise NoMan("no page tells of such a man")
+
+
+def need_no_faults(pages, man):
+    """Refuse faults of the man and of the ship."""
     found = faults_of_ship(pages) + faults_of_man(pages, man)
     if found:
         raise Faulty(tuple(found))
+
+
+def need_sound_man(articles, pages, man):
+    """Refuse what is no articles, no pages, no man of whom they tell; then faults, his and the ship's."""
+    need_pages(articles, pages)
+    need_man(pages, man)
+    need_no_faults(pages, man)
 
 
 def earlier(one, other):
@@ -140,6 +150,21 @@ def paid_stretches(pages, man):
     for page in pages_of(pages, man, ("away",)):
         stretches = without_days(stretches, page[2], page[3] + 1)
     return neighbours_joined(stretches)
+
+
+def values_by_start(stretches, none):
+    """A dict that tells from which day on which value of stretches (first, last, value) holds, none between them."""
+    values = {last + 1: none for first, last, value in stretches if last is not None}
+    # Where one stretch follows another without a gap, the later one's value holds.
+    for first, last, value in stretches:
+        values[first] = value
+    return values
+
+
+def stretches_between(days):
+    """The stretches (first, last) from each of the days to the one ahead of the next, the last one without end."""
+    starts = sorted(set(days))
+    return list(zip(starts, [start - 1 for start in starts[1:]] + [None]))
 
 
 def on_books(articles, pages, man):

@@ -38,6 +38,18 @@ def home(day, pence, times=1, bearer="kin", man="ann"):
     return ("home", man, day, pence, times, bearer)
 
 
+def advance(day, pence, bearer="owner", man="ann"):
+    return ("advance", man, day, pence, bearer)
+
+
+def slops(day, pence, bearer="purser", man="ann"):
+    return ("slops", man, day, pence, bearer)
+
+
+def fine(day, pence, man="ann"):
+    return ("fine", man, day, pence)
+
+
 def nested(kind, depth, core):
     thing = core
     for step in range(depth):
@@ -280,9 +292,9 @@ def long_book(seed):
 
 
 def great_book(seed, scale=1):
-    """Articles and 200 pages, 90 of them turns of ann without faults; all days, and the month, as great as the scale tells."""
+    """Articles and 200 pages, 90 of them turns of ann without faults; all days as great as the scale tells."""
     chance = random.Random(seed)
-    articles = ((("boy", 0, 1), ("hand", 30, 7), ("mate", 480, 28)), CHESTS, 4 * scale)
+    articles = ((("boy", 0, 1), ("hand", 30, 7), ("mate", 480, 28)), CHESTS, 4)
     days = sorted(chance.sample(range(400), 90))
     words = ("joins", "ranked", "leaves")
     pages = []

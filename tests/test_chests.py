@@ -6,16 +6,12 @@ import unittest
 
 from crewpay.chests import chests_at, shared
 from crewpay.errors import NoArticles, NoPages, NoSum
-from helpers import FAR, GOOD, MOST, RANKS, home, in_orders, joins, leaves, small_things, steps
+from helpers import FAR, GOOD, MOST, RANKS, fine, home, in_orders, joins, leaves, small_things, steps
 
 
 def chested(*parts):
     """Articles with chests ca, cb, .. of these parts."""
     return (RANKS, tuple(("c" + letter, part) for letter, part in zip("abcdef", parts)), 28)
-
-
-def fine(day, pence, man="ann"):
-    return ("fine", man, day, pence)
 
 
 class Shared(unittest.TestCase):

@@ -22,6 +22,8 @@ BUILTINS = (
     "ord repr any all divmod Exception ValueError TypeError KeyError IndexError LookupError ZeroDivisionError "
     "ArithmeticError OverflowError RuntimeError NotImplementedError AttributeError StopIteration NotImplemented"
 ).split()
+# L25: the methods of builtin values that this package uses.
+METHODS = "append get join partition pop split"
 # L3: what may stand at module level.
 AT_MODULE_LEVEL = (ast.Expr, ast.ImportFrom, ast.FunctionDef, ast.ClassDef, ast.Assign)
 
@@ -107,7 +109,7 @@ class Language(unittest.TestCase):
                     self.assertTrue(not isinstance(node, ast.Expr) or isinstance(node.value, ast.Constant))
 
     def test_l7_generators(self):
-        # A class with `__eq__` is to come, beside which any, all and their like take lists.
+        # Beside a class with `__eq__` any, all and their like take lists.
         for name, text in self.each():
             with self.subTest(name):
                 for node in ast.walk(ast.parse(text)):
@@ -137,6 +139,50 @@ class Language(unittest.TestCase):
             first = [name for name in above if not above[name] & set(above)]
             self.assertNotEqual(first, [], above)
             above = {name: above[name] for name in above if name not in first}
+
+    def test_l5_l18_classes(self):
+        methods, attributes = [], set()
+        for name, text in self.each():
+            for node in ast.walk(ast.parse(text)):
+                if isinstance(node, ast.ClassDef):
+                    self.assertEqual(node.decorator_list, [])
+                    self.assertTrue(all(isinstance(part, (ast.FunctionDef, ast.Expr)) for part in node.body))
+                    methods += [part.name for part in node.body if isinstance(part, ast.FunctionDef)]
+                if isinstance(node, ast.Attribute) and isinstance(node.ctx, ast.Store):
+                    self.assertEqual(node.value.id, "self")
+                    attributes.add(node.attr)
+        self.assertEqual(attributes & set(methods), set())
+        dunders = {method for method in methods if method.startswith("__")}
+        self.assertLessEqual(dunders, {"__init__", "__eq__", "__len__"})
+
+    def test_l25_methods(self):
+        own = {"enter", "strike", "back", "send", "pages", "left", "room", "off", "turn_to", "__init__"}
+        for name, text in self.each():
+            with self.subTest(name):
+                calls = [node for node in ast.walk(ast.parse(text)) if isinstance(node, ast.Call)]
+                for node in calls:
+                    if isinstance(node.func, ast.Attribute):
+                        self.assertIn(node.func.attr, METHODS.split() + sorted(own))
+                        self.assertEqual(node.keywords, [])
+                    elif isinstance(node.func, ast.Name) and node.func.id in BUILTINS:
+                        self.assertLessEqual({word.arg for word in node.keywords}, {"key", "default"})
+                    else:
+                        self.assertIsInstance(node.func, ast.Name)
+
+    def test_l19_no_errors_of_pythons_own_are_caught(self):
+        for name, text in self.each():
+            with self.subTest(name):
+                self.assertFalse([node for node in ast.walk(ast.parse(text)) if isinstance(node, ast.Try)])
+
+    def test_l24_sets_are_used_on_the_spot(self):
+        for name, text in self.each():
+            tree = ast.parse(text)
+            within = [part for node in ast.walk(tree) if isinstance(node, ast.Call) for part in node.args
+                      if isinstance(node.func, ast.Name) and node.func.id in ("sorted", "len")]
+            sets = [node for node in ast.walk(tree) if isinstance(node, (ast.Set, ast.SetComp))]
+            sets += [node for node in ast.walk(tree) if isinstance(node, ast.Call) and getattr(node.func, "id", "") == "set"]
+            with self.subTest(name):
+                self.assertEqual([node.lineno for node in sets if node not in within], [])
 
     def test_l20_is(self):
         for name, text in self.each():

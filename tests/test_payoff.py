@@ -8,7 +8,8 @@ from crewpay.fractions import whole_part
 from crewpay.ledgers import earned, had, left
 from crewpay.payoff import paid_off
 from helpers import (
-    CHESTS, FAR, HORIZON, LETTERS, MOST, SlowBook, away, home, in_orders, joins, leaves, long_book, random_book, ranked, steps,
+    CHESTS, FAR, HORIZON, LETTERS, MOST, SlowBook, advance, away, fine, home, in_orders, joins, leaves, long_book,
+    random_book, ranked, slops, steps,
 )
 
 # By the day: boy nothing, hand 30, mate 120/7, rich 10 ** 9.
@@ -18,18 +19,6 @@ MANY = 10 ** 6
 
 def by_month(month):
     return PAID[:2] + (month,)
-
-
-def advance(day, pence, bearer="owner"):
-    return ("advance", "ann", day, pence, bearer)
-
-
-def slops(day, pence, bearer="purser"):
-    return ("slops", "ann", day, pence, bearer)
-
-
-def fine(day, pence):
-    return ("fine", "ann", day, pence)
 
 
 class PaidOff(unittest.TestCase):

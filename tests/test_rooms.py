@@ -7,7 +7,8 @@ from crewpay.errors import Faulty, NoMan
 from crewpay.ledgers import left, next_sent
 from crewpay.rooms import first_over, room
 from helpers import (
-    CHESTS, FAR, HORIZON, MOST, SlowBook, away, home, in_orders, joins, leaves, long_book, random_book, ranked, steps,
+    CHESTS, FAR, HORIZON, MOST, SlowBook, advance, away, fine, home, in_orders, joins, leaves, long_book, random_book,
+    ranked, slops, steps,
 )
 
 # By the day: bit 1/1000, boy nothing, hand 30, mate 120/7, rich 10 ** 9, third 1/3.
@@ -20,18 +21,6 @@ MANY = 10 ** 6
 
 def by_month(month):
     return PAID[:2] + (month,)
-
-
-def slops(day, pence, man="ann"):
-    return ("slops", man, day, pence, "purser")
-
-
-def advance(day, pence, man="ann"):
-    return ("advance", man, day, pence, "owner")
-
-
-def fine(day, pence, man="ann"):
-    return ("fine", man, day, pence)
 
 
 class Rooms(unittest.TestCase):
@@ -200,7 +189,7 @@ class Rooms(unittest.TestCase):
         self.are_rooms({MOST: 0, -MOST: 0}, [joins(0, "boy"), slops(FAR, 1)])
 
     def test_the_pay_is_of_his_rank_alone(self):
-        pages = [joins(0, "hand"), joins(0, "rich", "bob"), slops(3, 10 ** 9, "bob"), home(3, 10 ** 9, 9, man="bob")]
+        pages = [joins(0, "hand"), joins(0, "rich", "bob"), slops(3, 10 ** 9, man="bob"), home(3, 10 ** 9, 9, man="bob")]
         self.are_rooms({0: 30, 3: 120}, pages)
 
     def test_twelve_ranks(self):

@@ -286,8 +286,6 @@ class GreatBooks(unittest.TestCase):
     def test_forty_times_behind_one_another_in_few_steps(self):
         scale = 10 ** 9
         articles, pages = great_book(7, scale)
-        # The month is as short as ever, the days are far from one another.
-        articles = articles[:2] + (4,)
         for at in range(40):
             for action in (room, paid_off):
                 steps(100000, action, articles, pages, "ann", at * 10 * scale)
